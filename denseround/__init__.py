@@ -1,0 +1,1 @@
+"""Rounds through all places of a yard, or why there is none."""
