@@ -49,12 +49,21 @@ class Yard:
         return self._degrees.get(place, 0)
 
 
-def thin(yard):
-    """Tell the pairs that aren't tied and have too few ties together."""
+def untied(yard):
+    """Tell all pairs (one, other), one less than other, that aren't tied, rising."""
     many = yard.many()
     return [
         (one, other)
         for one in range(many)
         for other in range(one + 1, many)
-        if not yard.is_tied(one, other) and yard.degree(one) + yard.degree(other) < many
+        if not yard.is_tied(one, other)
+    ]
+
+
+def thin(yard):
+    """Tell the pairs that aren't tied and have too few ties together."""
+    return [
+        (one, other)
+        for one, other in untied(yard)
+        if yard.degree(one) + yard.degree(other) < yard.many()
     ]
